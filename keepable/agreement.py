@@ -1,30 +1,19 @@
-"""An agreement: its parties, whose act each act is, its clauses, and what is owed since it went off."""
+"""An agreement: its parties, whose act each act is, its clauses, and where it has come to since it went off."""
 
-ACT_COUNT = 16
-MOST_PARTIES = 4
-MOST_CLAUSES = 8
-MOST_DAYS = 7
-
-AT_THE_BEGINNING = 0
-BY_AN_ACT = 1
-BY_A_BROKEN_CLAUSE = 3
+from keepable.course import Course
+from keepable.keeping import first_keeping_move, lost_places, places_from
+from keepable.terms import (
+    ACT_COUNT, AT_THE_BEGINNING, BY_A_BROKEN_CLAUSE, BY_AN_ACT, MOST_CLAUSES, MOST_DAYS, MOST_PARTIES,
+)
 
 DONE = 0
-GONE_OFF = -16
+NOT_THEIR_TURN = -1
+NOT_NOW = -16
 NAMED = -17
 WRONG = -22
 FULL = -28
-
-
-# The act that a clause names is its deed here, for act is a method of the agreement.
-class Clause:
-    def __init__(self, when, what, must, who, deed, days):
-        self.when = when
-        self.what = what
-        self.must = must
-        self.who = who
-        self.deed = deed
-        self.days = days
+CANNOT = -33
+TOO_MANY = -75
 
 
 def what_bound(when):
@@ -43,8 +32,8 @@ class Agreement:
         self.clauses = []
         self.gone = False
         # These two mean something only when it has gone off: go sets them.
-        self.turn = 0
-        self.left = []
+        self.course = None
+        self.place = ()
 
     def begin(self, n):
         if n < 1 or n > MOST_PARTIES:
@@ -58,7 +47,7 @@ class Agreement:
 
     def act(self, a, p):
         if self.gone:
-            return GONE_OFF
+            return NOT_NOW
         if a >= ACT_COUNT or p >= self.parties:
             return WRONG
         if self.names(a):
@@ -71,7 +60,7 @@ class Agreement:
 
     def clause(self, told):
         if self.gone:
-            return GONE_OFF
+            return NOT_NOW
         if not self.fits(told):
             return WRONG
         number = len(self.clauses)
@@ -90,7 +79,49 @@ class Agreement:
         return told.days >= 1 and told.days <= MOST_DAYS
 
     def go(self):
+        # Parties, acts and clauses stay as they are from a go to the next begin, and so does the course.
+        if not self.gone:
+            self.course = Course(self.parties, self.owners, self.clauses)
         self.gone = True
-        self.turn = 0
-        self.left = [clause.days if clause.when == AT_THE_BEGINNING else 0 for clause in self.clauses]
+        self.place = self.course.first_place()
         return DONE
+
+    def do(self, p, a):
+        """Who broke something, with how many they are ahead of them; or a refusal alone."""
+        if not self.gone:
+            return [NOT_NOW]
+        if p != self.place[0]:
+            return [NOT_THEIR_TURN]
+        if a not in self.course.moves(p):
+            return [WRONG]
+        outcome = self.course.outcome(self.place, a)
+        self.place = outcome.place
+        return [len(outcome.broke)] + list(outcome.broke)
+
+    def owed(self):
+        """Whose turn it is, and of each clause how many days are left; or a refusal alone."""
+        if not self.gone:
+            return [NOT_NOW]
+        return list(self.place)
+
+    def can(self, p):
+        if not self.gone:
+            return NOT_NOW
+        if p >= self.parties:
+            return WRONG
+        places = places_from(self.course, self.place)
+        if places is None:
+            return TOO_MANY
+        return 0 if self.place in lost_places(self.course, places, p) else 1
+
+    def best(self):
+        if not self.gone:
+            return NOT_NOW
+        places = places_from(self.course, self.place)
+        if places is None:
+            return TOO_MANY
+        turn = self.place[0]
+        lost = lost_places(self.course, places, turn)
+        if self.place in lost:
+            return CANNOT
+        return first_keeping_move(self.course.outcomes(self.place), lost, turn)

@@ -1,13 +1,18 @@
 """The calls on one new agreement, one behind another in one list, and their answers in another."""
 
-from keepable.agreement import Agreement, Clause
+from keepable.agreement import Agreement
+from keepable.terms import Clause
 
 BEGIN = 0
 ACT = 1
 CLAUSE = 2
+GO = 3
+DO = 4
+OWED = 5
+CAN = 6
 
 # By a call's number, how many whole numbers stand behind it.
-NUMBER_COUNTS = (1, 2, 6, 0)
+NUMBER_COUNTS = (1, 2, 6, 0, 2, 0, 1, 0)
 
 
 def answers(calls):
@@ -31,7 +36,15 @@ def answer_of(agreement, call, numbers):
         return [agreement.act(numbers[0], numbers[1])]
     if call == CLAUSE:
         return [agreement.clause(clause_of(numbers))]
-    return [agreement.go()]
+    if call == GO:
+        return [agreement.go()]
+    if call == DO:
+        return agreement.do(numbers[0], numbers[1])
+    if call == OWED:
+        return agreement.owed()
+    if call == CAN:
+        return [agreement.can(numbers[0])]
+    return [agreement.best()]
 
 
 def clause_of(numbers):

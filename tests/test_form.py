@@ -14,7 +14,7 @@ STATEMENTS = (
 )
 NOT_USED = (
     ast.Set, ast.SetComp, ast.DictComp, ast.GeneratorExp, ast.NamedExpr, ast.Starred, ast.Div, ast.Await, ast.Yield,
-    ast.YieldFrom, ast.Is, ast.IsNot,
+    ast.YieldFrom,
 )
 OWN_NAMES = (
     "len range enumerate zip min max sum abs sorted reversed int str bool list tuple dict set frozenset isinstance "
@@ -64,6 +64,24 @@ class Form(unittest.TestCase):
                 if isinstance(node, ast.Assign):
                     self.assertEqual(len(node.targets), 1, where)
                 self.assertNotIsInstance(node, NOT_USED, where)
+
+    def test_l20_is_beside_none_true_and_false_alone(self):
+        for path in FILES:
+            for node in nodes_of(path):
+                if isinstance(node, ast.Compare) and any(isinstance(op, (ast.Is, ast.IsNot)) for op in node.ops):
+                    sides = [side for side in [node.left] + node.comparators if isinstance(side, ast.Constant)]
+                    plain = any(side.value is known for side in sides for known in (None, True, False))
+                    self.assertTrue(plain, (path.name, node.lineno))
+
+    def test_l16_no_two_files_draw_from_one_another(self):
+        drawn = {}
+        for path in FILES:
+            modules = [node.module for node in nodes_of(path) if isinstance(node, ast.ImportFrom)]
+            drawn[f"keepable.{path.stem}"] = set(modules)
+        while drawn:
+            free = [name for name in drawn if not drawn[name] & set(drawn)]
+            self.assertNotEqual(free, [], sorted(drawn))
+            drawn = {name: drawn[name] for name in drawn if name not in free}
 
     def test_l8_names(self):
         for path in FILES:

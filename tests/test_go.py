@@ -1,17 +1,8 @@
-"""Point 3: go. What is owed then is read from the agreement itself."""
+"""Point 3: go."""
 
 import unittest
 
-from calling import act, begin, clause, go, told
-from keepable.agreement import Agreement, Clause
-
-
-def agreement_of(n, *clauses):
-    agreement = Agreement()
-    agreement.begin(n)
-    for told_as in clauses:
-        agreement.clause(Clause(*told_as))
-    return agreement
+from calling import NONE, act, begin, clause, do, each, go, last, owed, told
 
 
 class Go(unittest.TestCase):
@@ -28,46 +19,38 @@ class Go(unittest.TestCase):
         self.assertEqual(told(begin(1), go(), begin(2), go(), clause(), begin(2), clause()), [0, 0, 0, 0, -16, 0, 0])
 
     def test_what_the_beginning_calls_up_is_owed_with_its_days(self):
-        agreement = agreement_of(1, (0, 0, 1, 0, 0, 7), (0, 0, 0, 0, 1, 1), (0, 0, 1, 0, 2, 4))
-        self.assertEqual(agreement.go(), 0)
-        self.assertEqual(agreement.left, [7, 1, 4])
-        self.assertEqual(agreement.turn, 0)
-        self.assertIs(agreement.gone, True)
+        clauses = [clause(days=7), clause(must=0, act=1, days=1), clause(act=2, days=4)]
+        self.assertEqual(last(begin(1), *clauses, go(), owed()), [0, 7, 1, 4])
 
     def test_nothing_else_is_owed(self):
-        agreement = agreement_of(1, (1, 0, 1, 0, 0, 7), (0, 0, 0, 0, 1, 3), (2, 1, 1, 0, 2, 5), (3, 3, 0, 0, 2, 2))
-        self.assertEqual(agreement.go(), 0)
-        self.assertEqual(agreement.left, [0, 3, 0, 0])
+        clauses = [
+            clause(when=1, what=0, days=7),
+            clause(must=0, act=1, days=3),
+            clause(when=2, what=1, act=2, days=5),
+            clause(when=3, what=3, must=0, act=2, days=2),
+        ]
+        self.assertEqual(last(begin(1), *clauses, go(), owed()), [0, 0, 3, 0, 0])
 
     def test_without_clauses_nothing_is_owed(self):
-        agreement = agreement_of(4)
-        self.assertEqual(agreement.go(), 0)
-        self.assertEqual(agreement.left, [])
+        self.assertEqual(last(begin(4), go(), owed()), [0])
 
     def test_anew_it_is_as_at_the_first_go(self):
-        agreement = agreement_of(3, (0, 0, 1, 0, 0, 6), (1, 0, 1, 0, 0, 2))
-        agreement.go()
-        agreement.left = [0, 2]
-        agreement.turn = 2
-        self.assertEqual(agreement.go(), 0)
-        self.assertEqual(agreement.left, [6, 0])
-        self.assertEqual(agreement.turn, 0)
-        self.assertIs(agreement.gone, True)
-
-    def test_a_clause_stays_as_it_was_told(self):
-        agreement = agreement_of(2, (1, 9, 0, 0, 5, 2))
-        clause_told = agreement.clauses[0]
+        clauses = [clause(act=0, days=6), clause(when=1, what=0, act=0, days=2)]
         self.assertEqual(
-            (clause_told.when, clause_told.what, clause_told.must, clause_told.who, clause_told.deed, clause_told.days),
-            (1, 9, 0, 0, 5, 2),
+            each(begin(3), *clauses, go(), owed(), do(0, 0), do(1, NONE), owed(), go(), owed())[4:],
+            [[0, 6, 0], [0], [0], [2, 0, 2], [0], [0, 6, 0]],
         )
 
+    def test_behind_a_begin_it_is_by_the_new_clauses(self):
+        first = [begin(2), clause(act=3, days=5), go(), do(0, 3)]
+        second = [begin(1), clause(must=0, act=3, days=2), clause(act=4, days=6), go()]
+        self.assertEqual(last(*first, *second, owed()), [0, 2, 6])
+        self.assertEqual(last(*first, *second, do(0, 3)), [1, 0])
+
     def test_a_begin_refused_after_it_leaves_what_is_owed(self):
-        agreement = agreement_of(2, (0, 0, 1, 0, 0, 5))
-        agreement.go()
-        self.assertEqual([agreement.begin(0), agreement.begin(5)], [-22, -22])
-        self.assertEqual(agreement.left, [5])
-        self.assertIs(agreement.gone, True)
+        self.assertEqual(
+            each(begin(2), clause(days=5), go(), do(0, NONE), begin(0), begin(5), owed())[4:], [[-22], [-22], [1, 5]]
+        )
 
 
 if __name__ == "__main__":
